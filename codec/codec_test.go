@@ -4,6 +4,7 @@ import (
 	"bytes"
 	"math"
 	"math/rand"
+	"strconv"
 	"strings"
 	"testing"
 
@@ -116,6 +117,22 @@ func TestParse(t *testing.T) {
 	}
 }
 
+// P16.2
+func TestParseAtTheLimits(t *testing.T) {
+	repeat := func(n int, text string) string {
+		var b strings.Builder
+		for i := range n {
+			b.WriteString(strings.ReplaceAll(text, "#", strconv.Itoa(i)))
+		}
+		return b.String()
+	}
+	s := readSchema(t, repeat(63, "definition d# {} ")+"definition e { relation r: a"+repeat(31, " | t#")+"; permission p = a"+repeat(31, " + x#")+"; "+repeat(62, "relation r#: a; ")+"}")
+	b, ok := codec.Put(s)
+	if got, err := codec.Parse(b); !ok || err != nil || !schema.Same(got, s) || len(s.Defs) != 64 || len(s.Defs[63].Members) != 64 {
+		t.Error(ok, err)
+	}
+}
+
 // refused tests that bytes have an error, as a schema.
 func refused(t *testing.T, reason string, b []byte, c api.Code, at int) {
 	t.Helper()
@@ -169,6 +186,8 @@ func TestParseLimitsAndKinds(t *testing.T) {
 	refused(t, "no type", member(1, 1), api.Short, 8)
 	refused(t, "empty type", member(1, 1, 0, 0), api.Name, 8)
 	refused(t, "wrong type", member(1, 1, 1, '_', 0), api.Name, 8)
+	refused(t, "wrong type before no rel", member(1, 1, 1, '_'), api.Name, 8)
+	refused(t, "wrong via before no name", member(2, 2, 0), api.Name, 8)
 	refused(t, "no rel", member(1, 1, 1, 'a'), api.Short, 10)
 	refused(t, "wrong rel", member(1, 1, 1, 'a', 1, '#'), api.Name, 10)
 	refused(t, "long rel", member(1, 1, 1, 'a', 65), api.Limit, 10)

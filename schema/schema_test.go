@@ -218,19 +218,20 @@ func TestSameMember(t *testing.T) {
 
 // P11.3
 func TestClone(t *testing.T) {
-	s := sample()
-	s.Defs[1].Members[1].Types = []api.Allowed{user} // no form, but cloned all the same
+	s, same := sample(), sample()
+	for _, x := range []*api.Schema{&s, &same} {
+		x.Defs[1].Members[1].Types = []api.Allowed{user} // no form, but cloned all the same
+	}
 	clone := schema.Clone(s)
 	if !schema.Same(s, clone) {
 		t.Error(clone)
 	}
-	before := schema.Clone(s)
 	clone.Defs[1].Members[0].Types[0].Type = "x"
 	clone.Defs[1].Members[1].Types[0].Type = "x"
 	clone.Defs[1].Members[1].Expr.Kids[0].Name = "x"
 	clone.Defs[1].Members[2].Name = "x"
 	clone.Defs[0].Name = "x"
-	if !schema.Same(s, before) {
+	if !schema.Same(s, same) {
 		t.Error("memory is shared:", s)
 	}
 }

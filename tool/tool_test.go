@@ -153,6 +153,8 @@ func TestMintAndVerify(t *testing.T) {
 		t.Error(minted, errs)
 	}
 	does(t, x, "verify "+minted+" => 5", "touch 6 doc:c#owner@user:o => ok", "verify "+minted+" => 5", "verify A => error syntax 0", "verify "+minted+"! => "+fmt.Sprintf("error syntax %d", len(minted)), "verify AAAA => error short 3", "verify "+minted[:60]+" => error tag 13")
+	does(t, x, "touch 42 doc:d#owner@user:o => ok")
+	does(t, x, "verify "+x.Do("mint")+" => 42")
 	does(t, tool.New(key), "verify "+minted+" => 5")
 	does(t, tool.New(nil), "verify "+minted+" => error tag 34")
 	given := []byte("a key")

@@ -34,8 +34,8 @@ func TestCursorCopiesAndCounts(t *testing.T) {
 	if c.At() != 1 || c.Left() != 3 || c.End() != error(api.Trailing) {
 		t.Error("after one byte:", c.At(), c.Left(), c.End())
 	}
-	if x, err := c.Number(); x != 300 || err != nil || c.At() != 3 || c.Left() != 1 {
-		t.Error("after three bytes:", x, err, c.At(), c.Left())
+	if x, err := c.Number(); x != 300 || err != nil || c.At() != 3 || c.Left() != 1 || c.End() != error(api.Trailing) {
+		t.Error("after three bytes:", x, err, c.At(), c.Left(), c.End())
 	}
 	if x, err := c.Number(); x != 7 || err != nil || c.At() != 4 || c.Left() != 0 || c.End() != nil {
 		t.Error("at the end:", x, err, c.At(), c.Left(), c.End())
@@ -148,8 +148,16 @@ func TestTake(t *testing.T) {
 	if b, err := c.Take(0); len(b) != 0 || err != nil || c.At() != 2 {
 		t.Error("no bytes:", b, err)
 	}
-	if b, err := c.Take(2); !bytes.Equal(b, []byte{3, 4}) || err != nil || c.End() != nil {
-		t.Error("the last ones:", b, err)
+	for i := range 2 {
+		if b, err := c.Take(1); !bytes.Equal(b, []byte{byte(3 + i)}) || err != nil || c.At() != 3+i {
+			t.Error("one byte:", b, err, c.At())
+		}
+	}
+	if c.End() != nil {
+		t.Error("at the end:", c.End())
+	}
+	if b, err := wire.New([]byte{7, 8}).Take(2); !bytes.Equal(b, []byte{7, 8}) || err != nil {
+		t.Error("all bytes:", b, err)
 	}
 }
 
@@ -160,6 +168,10 @@ func TestText(t *testing.T) {
 		c := wire.New(append(wire.Text(s), 9))
 		if got, err := c.Text(len(s)); got != s || err != nil || c.Left() != 1 {
 			t.Error(len(s), len(got), err, c.Left())
+		}
+		last := wire.New(wire.Text(s))
+		if got, err := last.Text(len(s)); got != s || err != nil || last.End() != nil {
+			t.Error("up to the end:", len(s), len(got), err, last.End())
 		}
 	}
 	cases := map[string]struct {
