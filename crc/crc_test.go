@@ -91,12 +91,26 @@ func TestPartsAndExtend(t *testing.T) {
 	}
 }
 
+// P3.1: as many bytes as the parts may have together.
+func TestMostBytes(t *testing.T) {
+	b := make([]byte, 1<<24)
+	rand.New(rand.NewSource(5)).Read(b)
+	want := crc32.ChecksumIEEE(b)
+	cut := len(b)/3 + 1
+	if got := crc.Sum(b[:cut], b[cut:]); got != want {
+		t.Errorf("sum %#x, not %#x", got, want)
+	}
+	if got := crc.Extend(crc32.ChecksumIEEE(b[:cut]), b[cut:]); got != want {
+		t.Errorf("extended %#x, not %#x", got, want)
+	}
+}
+
 // P3.1
 func TestSumsAtTheSameTime(t *testing.T) {
 	var group sync.WaitGroup
 	for range 8 {
 		group.Go(func() {
-			if crc.Sum([]byte("123456789")) != 0xcbf43926 {
+			if crc.Sum([]byte("123456789")) != 0xcbf43926 || crc.Extend(0, []byte("123456789")) != 0xcbf43926 {
 				t.Error("another checksum")
 			}
 		})
